@@ -1,0 +1,1 @@
+"""Reticle: checking, extracting and comparing chip layouts."""
