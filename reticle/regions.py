@@ -1,6 +1,6 @@
 """Regions: finite sets of squares, each written as a tuple of boxes in one way only."""
 
-from reticle.boxes import box_area, has_square, is_box
+from reticle.boxes import box_area, has_square, is_box, overlap
 from reticle.moves import move_box
 from reticle.rows import boxes_of, combined, rows_of
 
@@ -64,6 +64,12 @@ def rest(first, second):
 def odd_part(first, second):
     """The region of the squares that are in exactly one of two regions."""
     return boxes_of(combined(rows_of(first), rows_of(second), IN_ONE_ONLY))
+
+
+def within(region, box):
+    """The region of the squares of a region that are in a box."""
+    parts = [overlap(part, box) for part in region]
+    return region_of([part for part in parts if part is not None])
 
 
 def move_region(move, region):

@@ -2,6 +2,8 @@
 
 import random
 
+from reticle.circuits import Circuit
+
 HUGE = 10 ** 29
 
 TURN_COUNT = 8
@@ -47,6 +49,32 @@ def box_squares(x, y, n):
     return {(x + i, y + j) for i in range(n) for j in range(n)}
 
 
+def spread_squares(squares, left, down, right, up):
+    """The squares to which squares are spread (point 9), one by one."""
+    return {(x + i, y + j) for x, y in squares for i in range(-left, right + 1) for j in range(-down, up + 1)}
+
+
+def joined_squares(squares, start):
+    """The squares that are joined with a square."""
+    found, left = {start}, [start]
+    while left:
+        for square in neighbours(*left.pop()):
+            if square in squares and square not in found:
+                found.add(square)
+                left.append(square)
+    return found
+
+
+def piece_squares(squares):
+    """The sets of squares of the pieces, in the order of their first squares by y and then by x."""
+    found, left = [], set(squares)
+    for x, y in sorted(squares, key=lambda square: (square[1], square[0])):
+        if (x, y) in left:
+            found.append(joined_squares(squares, (x, y)))
+            left -= found[-1]
+    return found
+
+
 def random_box(source, size, longest):
     """A box whose lower left square is at most `size` away from (0, 0)."""
     x, y = source.randint(-size, size), source.randint(-size, size)
@@ -81,6 +109,25 @@ def cut_up(source, boxes):
     return parts
 
 
+def random_shapes(source, layers, most=4, size=6, longest=4):
+    """A list of shapes, up to `most` of them on each of the layers."""
+    return [(layer, box) for layer in layers for box in random_boxes(source, most, size, longest)]
+
+
+def cut_shapes(source, shapes):
+    """Other shapes with the same squares, in another order."""
+    parts = []
+    for layer in sorted({layer for layer, _ in shapes}):
+        parts.extend((layer, box) for box in cut_up(source, [box for other, box in shapes if other == layer]))
+    source.shuffle(parts)
+    return parts
+
+
+def random_move(source, size=9):
+    """Any of the eight turns, and a shift."""
+    return (source.randrange(TURN_COUNT), source.randint(-size, size), source.randint(-size, size))
+
+
 def turned_corner(turn, x, y):
     """The image of the corner (x, y) under a turn, step by step as point 5 says."""
     if turn >= 4:
@@ -102,3 +149,39 @@ def image_of_square(move, square):
     """The image of a square under a move."""
     x, y = square
     return image_of_box(move, (x, y, x + 1, y + 1))[:2]
+
+
+def random_circuit(source, net_count, device_count, sizes=1, names=0):
+    """A circuit with at least one net, with widths and lengths up to `sizes` and up to `names` names."""
+    devices = []
+    for _ in range(device_count):
+        gate, *ends = [source.randrange(net_count) for _ in range(3)]
+        width, length = source.randint(1, sizes), source.randint(1, sizes)
+        devices.append((source.choice("np"), gate, *sorted(ends), width, length))
+    named = source.sample(range(net_count), min(names, net_count))
+    return Circuit(net_count, [(net, f"n{at}") for at, net in enumerate(named)], devices)
+
+
+def mixed_up(source, circuit):
+    """The same circuit with other numbers: a triple of it and of the tuples of a match."""
+    nets, order = list(range(circuit.net_count)), list(range(len(circuit.devices)))
+    source.shuffle(nets)
+    source.shuffle(order)
+    devices = [None] * len(order)
+    for index, (kind, gate, end, other, width, length) in enumerate(circuit.devices):
+        devices[order[index]] = (kind, nets[gate], *sorted([nets[end], nets[other]]), width, length)
+    return Circuit(circuit.net_count, [(nets[net], name) for net, name in circuit.names], devices), tuple(nets), tuple(order)
+
+
+def rings(*sizes, kind="n", gate=None):
+    """Rings of equal devices, without names; a device leads from each net of a ring to the next one.
+
+    The gate is the first of the two nets, or, if `gate` is True, one more net, which is the last one.
+    """
+    devices, start, last = [], 0, sum(sizes)
+    for size in sizes:
+        for at in range(size):
+            net, following = start + at, start + (at + 1) % size
+            devices.append((kind, last if gate else net, *sorted([net, following]), 1, 1))
+        start += size
+    return Circuit(last + 1 if gate else last, [], devices)

@@ -5,9 +5,11 @@ import inspect
 import unittest
 
 from reticle.cells import Cell, Library
+from reticle.circuits import Circuit
 from reticle.layouts import Layout
 from reticle.stores import Store
 from reticle.trees import Tree
+from reticle.wiring import Wiring
 
 SPREADS = "*, left=0, down=0, right=0, up=0"
 
@@ -36,6 +38,28 @@ FUNCTIONS = {
     "layouts": {"is_name": "(name)"},
     "flattening": {"copies": "(placement)", "flatten": "(library, name, *, limit=10000)"},
     "librarytext": {"format_library": "(library)", "parse_library": "(text)"},
+    "rules": {"is_rule": "(rule)", "reach": "(rule)", "marks": "(layout, rule)"},
+    "checking": {
+        "check": "(layout, deck)", "is_kept": "(layout, deck)", "marked_at": "(layout, deck, x, y)",
+        "recheck": "(layout, deck, found, *, window)",
+    },
+    "wiring": {"conductor": "(layout, layer)", "connect": "(layout)"},
+    "transistors": {
+        "channels": "(layout)", "is_well_formed": "(layout, channel)", "transistor": "(layout, wiring, channel)",
+    },
+    "extracting": {"extract": "(layout)"},
+    "reducing": {"merged": "(circuit)", "pruned": "(circuit)", "renumbered": "(circuit, order)"},
+    "circuittext": {"format_circuit": "(circuit)", "parse_circuit": "(text)"},
+    "matching": {"is_match": "(first, second, match)"},
+    "colours": {
+        "net_classes": "(first, second, bonds, step)", "device_classes": "(first, second, bonds, step)",
+        "is_balanced": "(first, second, bonds, step)",
+    },
+    "comparing": {
+        "is_difference": "(first, second, difference)", "compare": "(first, second, *, limit=1000)",
+        "are_same": "(first, second, *, limit=1000)",
+    },
+    "outlines": {"outlines": "(region)", "signed_area": "(loop)", "is_outer": "(loop)", "filled": "(loops)"},
 }
 
 METHODS = {
@@ -54,11 +78,25 @@ METHODS = {
         "numbers": "(self)", "undo": "(self)", "redo": "(self)", "back_to": "(self, mark)", "layout": "(self)",
     },
     Tree: {"__init__": "(self, rows)", "find": "(self, window)", "depth": "(self)"},
+    Wiring: {
+        "__len__": "(self)", "parts": "(self, net)", "net_at": "(self, layer, x, y)", "region": "(self, net, layer)",
+        "names_on": "(self, net)", "loose": "(self)", "shorted": "(self)", "split": "(self)",
+    },
+    Circuit: {
+        "__init__": "(self, net_count, names, devices)", "name_of": "(self, net)", "devices_at": "(self, net)",
+        "__eq__": "(self, other)",
+    },
 }
 
 PROPERTIES = {Library: ["cell_names"], Store: ["mark"]}
 
-MODULES = {Layout: "layouts", Cell: "cells", Library: "cells", Store: "stores", Tree: "trees"}
+MODULES = {
+    Layout: "layouts", Cell: "cells", Library: "cells", Store: "stores", Tree: "trees", Wiring: "wiring",
+    Circuit: "circuits",
+}
+
+# The files that define the constants of the interface.
+CONSTANTS = {"STAY": "moves", "LAYERS": "layouts", "CONDUCTORS": "wiring"}
 
 
 class Interface(unittest.TestCase):
@@ -88,6 +126,14 @@ class Interface(unittest.TestCase):
         self.assertIn("labels", vars(Layout([], [])))
         for field in ("name", "shapes", "labels", "placements"):
             self.assertIn(field, vars(Cell("a", [], [], [])))
+        for field in ("net_count", "names", "devices"):
+            self.assertIn(field, vars(Circuit(0, [], [])))
+
+    def test_constants_are_assigned_in_their_files(self):
+        for name, file in CONSTANTS.items():
+            module = importlib.import_module(f"reticle.{file}")
+            self.assertIsInstance(getattr(module, name), tuple)
+            self.assertIn(f"\n{name} = (", inspect.getsource(module))
 
 
 if __name__ == "__main__":

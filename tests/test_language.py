@@ -222,7 +222,7 @@ class Statements(unittest.TestCase):
     def test_sets_and_sorting(self):
         for file, tree in TREES.items():
             calls = [node for node in ast.walk(tree) if isinstance(node, ast.Call)]
-            inner = [part for node in calls if isinstance(node.func, ast.Name) and node.func.id == "sorted"
+            inner = [part for node in calls if isinstance(node.func, ast.Name) and node.func.id in ("sorted", "len")
                      for part in node.args]
             for node in calls:
                 if isinstance(node.func, ast.Name) and node.func.id == "set":

@@ -4,34 +4,13 @@ import unittest
 
 from reticle.pieces import are_joined, first_square, outline_length, piece_at, pieces
 from reticle.regions import is_region, region_of, rest, union
-from tests.helpers import HUGE, neighbours, region_of_squares, samples, squares_of
+from tests.helpers import HUGE, joined_squares, neighbours, piece_squares, region_of_squares, samples, squares_of
 
 SAMPLES = samples(150, most=9, size=6, longest=4)
 
 RING = rest(((0, 0, 5, 5),), ((1, 1, 4, 4),))
 
 RINGS_IN_RINGS = union(union(RING, ((2, 2, 3, 3),)), rest(((-3, -3, 8, 8),), ((-2, -2, 7, 7),)))
-
-
-def joined_squares(squares, start):
-    """The squares that are joined with a square."""
-    found, left = {start}, [start]
-    while left:
-        for square in neighbours(*left.pop()):
-            if square in squares and square not in found:
-                found.add(square)
-                left.append(square)
-    return found
-
-
-def piece_squares(squares):
-    """The sets of squares of the pieces, in the order of their first squares by y and then by x."""
-    found, left = [], set(squares)
-    for x, y in sorted(squares, key=lambda square: (square[1], square[0])):
-        if (x, y) in left:
-            found.append(joined_squares(squares, (x, y)))
-            left -= found[-1]
-    return found
 
 
 class Pieces(unittest.TestCase):

@@ -4,14 +4,9 @@ import unittest
 
 from reticle.regions import area, is_region, region_of, rest, union
 from reticle.sizing import gaps, grow, opened, shrink, spread
-from tests.helpers import HUGE, box_squares, region_of_squares, samples, squares_of
+from tests.helpers import HUGE, box_squares, region_of_squares, samples, spread_squares, squares_of
 
 SAMPLES = samples(60, most=6, size=4)
-
-
-def spread_squares(squares, left, down, right, up):
-    """The squares of point 9, one by one."""
-    return {(x + i, y + j) for x, y in squares for i in range(-left, right + 1) for j in range(-down, up + 1)}
 
 
 def shrunk_squares(squares, n):
