@@ -22,4 +22,4 @@ def device_classes(first, second, bonds, step):
 
 def is_balanced(first, second, bonds, step):
     """True if each colour of a round occurs equally often in both circuits."""
-    return rounds_at(first, second, bonds, step).is_balanced()
+    return rounds_at(first, second, bonds, step).is_balanced

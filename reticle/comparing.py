@@ -7,7 +7,7 @@ from reticle.rounds import Pair, Rounds
 def last_rounds(pair, bonds):
     """The rounds of a pair, advanced until a balance is not kept or until nothing more is told apart."""
     rounds = Rounds(pair, bonds)
-    while rounds.is_balanced() and not rounds.is_settled:
+    while rounds.is_balanced and not rounds.is_settled:
         rounds.advance()
     return rounds
 
@@ -84,7 +84,7 @@ def compare(first, second, *, limit=1000):
     search = Search()
     for _ in range(limit):
         rounds = last_rounds(pair, search.bonds())
-        if rounds.is_balanced():
+        if rounds.is_balanced:
             unsure = [members for members in rounds.net_classes() if len(members) > 2]
             if not unsure:
                 return ("same", (partners(rounds.net_classes()), partners(rounds.device_classes())))
@@ -117,7 +117,7 @@ def holds(pair, bonds, difference):
     rounds = Rounds(pair, bonds)
     rounds.advance_to(step)
     if difference[0] == "count":
-        return not rounds.is_balanced()
+        return not rounds.is_balanced
     return candidates_of(rounds, difference[2]) == [partner for partner, _ in difference[3]]
 
 

@@ -27,6 +27,11 @@ def classes_of(colours, places):
     return list(classes.values())
 
 
+def is_even(sides):
+    """True if 0 and 1 occur equally often in a list of sides."""
+    return 2 * sum(sides) == len(sides)
+
+
 class Pair:
     """The nodes of two circuits, and how they are connected."""
 
@@ -66,24 +71,23 @@ class Pair:
 class Rounds:
     """The colours of the nodes of a pair under a list of bonds, in round 0 and then in one round after the other.
 
+    `number` is that of the round, `is_balanced` tells whether each colour occurs equally often in both circuits,
+    and `is_settled` whether the round told no more nodes apart than the one before it.
     A round looks only at nodes that are connected with one whose colour is new, so long chains cost little.
     """
 
     def __init__(self, pair, bonds):
         self._pair = pair
         self._colours = [0 for _ in pair.sides]
-        # For each colour the number of its nodes, and how many more of them are of the second circuit.
+        # For each colour the number of its nodes.
         self._sizes = [len(pair.sides)]
-        self._excess = [self._excess_of(list(range(len(pair.sides))))]
+        self.is_balanced = is_even(pair.sides)
         self._changed = []
         self._divide(pair.first_keys(bonds))
         # In the first round no connection was looked at yet.
         self._changed = list(range(len(pair.sides)))
         self.number = 0
         self.is_settled = False
-
-    def _excess_of(self, nodes):
-        return sum([2 * self._pair.sides[node] - 1 for node in nodes])
 
     def _divide(self, keys):
         """Tells nodes of a colour apart by their keys; those that are given no key have a key of their own."""
@@ -100,13 +104,12 @@ class Rounds:
                 self._give_new_colour(colour, nodes)
 
     def _give_new_colour(self, old_colour, nodes):
-        excess = self._excess_of(nodes)
+        # As long as all parts that are taken away from colours are even, what is left of them is even, too.
+        self.is_balanced = self.is_balanced and is_even([self._pair.sides[node] for node in nodes])
         self._sizes[old_colour] -= len(nodes)
-        self._excess[old_colour] -= excess
         for node in nodes:
             self._colours[node] = len(self._sizes)
         self._sizes.append(len(nodes))
-        self._excess.append(excess)
         self._changed.extend(nodes)
 
     def _key(self, node):
@@ -115,7 +118,7 @@ class Rounds:
         return (tuple(sorted(gates)), tuple(sorted(ends)))
 
     def advance(self):
-        """Goes on to the next round; it is settled if that round tells no more nodes apart."""
+        """Goes on to the next round."""
         touched = {}
         for node in self._changed:
             for other in self._pair.gates[node] + self._pair.ends[node]:
@@ -128,10 +131,6 @@ class Rounds:
         """Goes on to a round. What is settled is the same in all later rounds."""
         while self.number < step and not self.is_settled:
             self.advance()
-
-    def is_balanced(self):
-        """True if each colour occurs equally often in both circuits."""
-        return not any(self._excess)
 
     def net_classes(self):
         """The partition of the nets by their colours: lists of pairs of a side and a net."""

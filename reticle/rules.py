@@ -104,7 +104,7 @@ MARKERS = {
 def marks_on(regions, rule):
     """The marks of a rule for a list of the regions of its layers."""
     marker = MARKERS[rule[0]]
-    arguments = [*regions, *rule_numbers(rule)]
+    arguments = regions + list(rule_numbers(rule))
     return marker(*arguments)
 
 

@@ -118,7 +118,10 @@ class WrongRules(unittest.TestCase):
             self.assertEqual(deck, copy)
 
     def test_example(self):
-        self.refused([("width", "metal", 2), ("width", "steel", 2)], 1)
+        deck = [("width", "metal", 2), ("width", "steel", 2)]
+        self.refused(deck, 1)
+        with self.assertRaises(InvalidRule):
+            check(Layout([], []), deck)
 
     def test_each_kind(self):
         for rule in WRONG_RULES:

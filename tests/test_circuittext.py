@@ -105,6 +105,7 @@ class Refusing(unittest.TestCase):
     def test_nets_out_of_range(self):
         for net in (5, 6, -1, LONG, -LONG):
             self.wrong_line(f"name a {net}")
+            self.wrong_line(f"name a {net}", before="nets 5")
             self.wrong_line(f"device n {net} 1 2 1 1")
             self.wrong_line(f"device n 0 {net} {net} 1 1")
         self.wrong_line("device n 0 1 5 1 1")

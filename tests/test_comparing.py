@@ -55,6 +55,12 @@ def pairs_of_circuits(count, most_nets=5, seed=1):
     return found
 
 
+def regular_circuit(source, count):
+    """A circuit of equal devices in which each net is one gate and two ends, so that colours tell nothing apart."""
+    gates, ends, others = [source.sample(range(count), count) for _ in range(3)]
+    return Circuit(count, [], [("n", gate, min(pair), max(pair), 1, 1) for gate, *pair in zip(gates, ends, others)])
+
+
 def lists_in(difference):
     """How many lists of bonds a search that gave a difference looked at."""
     if difference[0] == "count":
@@ -100,6 +106,17 @@ class Compare(unittest.TestCase):
             words.append(word)
         self.assertGreater(words.count("same"), 100)
         self.assertGreater(words.count("different"), 100)
+
+    def test_regular_circuits_against_all_ways_to_pair_the_nets(self):
+        source, words = random.Random(9), []
+        for _ in range(60):
+            first = regular_circuit(source, source.randint(3, 5))
+            second = mixed_up(source, first)[0] if source.random() < 0.3 else regular_circuit(source, first.net_count)
+            word = self.right(first, second)
+            self.assertEqual(word == "same", have_match(first, second), (first.devices, second.devices))
+            words.append(word)
+        self.assertGreater(words.count("same"), 10)
+        self.assertGreater(words.count("different"), 10)
 
     def test_mixed_up_circuits(self):
         source = random.Random(2)

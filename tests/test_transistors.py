@@ -164,6 +164,9 @@ class WellFormed(unittest.TestCase):
     def test_no_box(self):
         shapes = [("active", (0, 0, 6, 2)), ("poly", (2, -1, 4, 3)), ("poly", (4, -1, 5, 1))]
         self.assertIs(formed(*shapes), False)
+        # The lower row alone would be well formed.
+        step = [("active", (0, 0, 9, 2)), ("poly", (2, 0, 4, 1)), ("poly", (2, 1, 5, 2))]
+        self.assertIs(formed(*step), False)
         ring = [("active", (0, 0, 9, 9)), ("poly", (2, 2, 7, 3)), ("poly", (2, 6, 7, 7)), ("poly", (2, 2, 3, 7)),
                 ("poly", (6, 2, 7, 7))]
         self.assertIs(formed(*ring), False)
