@@ -108,8 +108,9 @@ class Wiring:
     def split(self):
         """The ascending list of the names whose labels lie on different nets."""
         net_counts = {}
-        for name in [name for names in self._names for name in names]:
-            net_counts[name] = net_counts.get(name, 0) + 1
+        for names in self._names:
+            for name in names:
+                net_counts[name] = net_counts.get(name, 0) + 1
         return sorted([name for name in net_counts if net_counts[name] > 1])
 
 
