@@ -78,7 +78,7 @@ class Shorted(ReticleError):
 
     def __init__(self, names):
         super().__init__("a net has several names")
-        self.names = names
+        self.names = list(names)
 
 
 class Split(ReticleError):

@@ -33,8 +33,13 @@ def all_labels(library, name):
     return found
 
 
-def flatten(library, name, *, limit=10000):
-    """The Layout of everything that is in a cell of a library."""
+def refuse_large(library, name, limit):
+    """Raises TooLarge if flattening a cell would produce more shapes or more labels than the limit."""
     if library.shape_count(name) > limit or library.label_count(name) > limit:
         raise TooLarge(limit)
+
+
+def flatten(library, name, *, limit=10000):
+    """The Layout of everything that is in a cell of a library."""
+    refuse_large(library, name, limit)
     return Layout(all_shapes(library, name), all_labels(library, name))

@@ -8,6 +8,8 @@ from reticle.sizing import gaps, grow, opened, shrink
 # For each kind, how many of the elements behind it are layers; the others are numbers.
 LAYER_COUNTS = {"width": 1, "space": 1, "apart": 2, "cover": 2, "area": 1, "size": 1, "never": 2}
 
+NUMBER_COUNTS = {"width": 1, "space": 1, "apart": 1, "cover": 1, "area": 1, "size": 2, "never": 0}
+
 # The kinds whose number may be 0.
 FROM_ZERO = ("apart", "cover")
 

@@ -3,6 +3,7 @@
 import random
 
 from reticle.circuits import Circuit
+from reticle.schematics import Block
 
 HUGE = 10 ** 29
 
@@ -185,3 +186,59 @@ def rings(*sizes, kind="n", gate=None):
             devices.append((kind, last if gate else net, *sorted([net, following]), 1, 1))
         start += size
     return Circuit(last + 1 if gate else last, [], devices)
+
+
+def drawn(circuit):
+    """The shapes and labels of a layout of a circuit: a strip on "top" for each net, and a column for each device."""
+    shapes, labels, right = [], [], 1
+    for kind, gate, end, other, width, length in circuit.devices:
+        x, last = right, right + 3 + length
+        shapes.extend([("active", (x, 0, last + 1, width)), ("poly", (x + 2, -1, x + 2 + length, width + 3))])
+        if kind == "p":
+            shapes.append(("well", (x + 2, 0, x + 2 + length, width)))
+        for column, y, net in [(x, 0, end), (last, 0, other), (x + 2, width + 2, gate)]:
+            height = 100 + 2 * net
+            shapes.extend([("contact", (column, y, column + 1, y + 1)), ("metal", (column, y, column + 1, height + 1)),
+                           ("via", (column, height, column + 1, height + 1))])
+        right = last + 3
+    for net in range(circuit.net_count):
+        shapes.append(("top", (0, 100 + 2 * net, right, 101 + 2 * net)))
+    labels.extend((name, "top", 0, 100 + 2 * net) for net, name in circuit.names)
+    return shapes, labels
+
+
+def random_expression(source, names, depth, greatest=3):
+    """An expression of at most this depth, over names, with numbers up to `greatest`."""
+    if depth == 1 or source.random() < 0.15:
+        return ("layer", source.choice(names))
+    operation = source.choice(["and", "or", "minus", "odd", "grow", "shrink", "open"])
+    if operation in ("grow", "shrink", "open"):
+        n = source.randint(1 if operation == "open" else 0, greatest)
+        return (operation, n, random_expression(source, names, depth - 1, greatest))
+    return (operation, *[random_expression(source, names, depth - 1, greatest) for _ in range(2)])
+
+
+def random_rule(source, names, greatest=3):
+    """A rule of any of the seven kinds about names, at least two of them different."""
+    kind = source.choice(["width", "space", "apart", "cover", "area", "size", "never"])
+    first, second = source.sample(names, 2)
+    n, other = source.randint(1, greatest), source.randint(1, greatest)
+    if kind in ("apart", "cover"):
+        return (kind, first, second, n - 1)
+    if kind == "never":
+        return (kind, first, second)
+    return (kind, first, n, other) if kind == "size" else (kind, first, n)
+
+
+def random_blocks(source, count, most_devices=3, most_uses=2, sizes=9):
+    """Blocks, each of which may use those before it; often one net is given to several ports."""
+    blocks = []
+    for at in range(count):
+        nets = [f"n{net}" for net in range(source.randint(1, 6))]
+        devices = [(source.choice("np"), *source.choices(nets, k=3), source.randint(1, sizes), source.randint(1, sizes))
+                   for _ in range(source.randint(0, most_devices))]
+        used = [source.choice(blocks) for _ in range(source.randint(0, most_uses))] if blocks else []
+        uses = [(block.name, tuple(source.choices(nets + ["m0", "m1"], k=len(block.ports)))) for block in used]
+        ports = source.sample(nets + ["m1", "q"], source.randint(0, min(4, len(nets))))
+        blocks.append(Block(f"b{at}", ports, devices, uses))
+    return blocks

@@ -48,6 +48,12 @@ class Errors(unittest.TestCase):
             error = getattr(errors, name)(*values)
             self.assertEqual(tuple(getattr(error, field) for field in fields), values, name)
 
+    def test_lists_are_copied(self):
+        names = ["a", "b"]
+        error = errors.Shorted(names)
+        names.append("c")
+        self.assertEqual(error.names, ["a", "b"])
+
     def test_without_fields(self):
         for name in PLAIN:
             self.assertIsInstance(getattr(errors, name)(), errors.ReticleError)

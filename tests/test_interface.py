@@ -6,7 +6,10 @@ import unittest
 
 from reticle.cells import Cell, Library
 from reticle.circuits import Circuit
+from reticle.decks import Deck
 from reticle.layouts import Layout
+from reticle.schematics import Block, Schematic
+from reticle.signoff import Report, sign_off
 from reticle.stores import Store
 from reticle.trees import Tree
 from reticle.wiring import Wiring
@@ -60,6 +63,34 @@ FUNCTIONS = {
         "are_same": "(first, second, *, limit=1000)",
     },
     "outlines": {"outlines": "(region)", "signed_area": "(loop)", "is_outer": "(loop)", "filled": "(loops)"},
+    "routing": {
+        "is_open": "(layout, wiring, nets, window, gap, x, y)",
+        "wire": "(layout, first, second, *, window, gap=1, limit=2000)",
+        "is_barrier": "(layout, first, second, region, *, window, gap=1)", "joined": "(layout, squares)",
+    },
+    "signoff": {"sign_off": "(library, name, deck, schematic, *, limit=1000)"},
+    "decks": {"expression_depth": "(expression)"},
+    "deriving": {
+        "evaluate": "(expression, regions)", "derived": "(layout, deck)", "check_deck": "(layout, deck)",
+    },
+    "decktext": {"format_deck": "(deck)", "parse_deck": "(text)"},
+    "schematics": {"own_nets": "(block)"},
+    "expanding": {"expand": "(schematic, name)"},
+    "schematictext": {"format_schematic": "(schematic)", "parse_schematic": "(text)"},
+    "behaviour": {
+        "next_values": "(circuit, fixed, values)", "settle": "(circuit, fixed)", "table": "(circuit, inputs, output)",
+    },
+    "netrules": {
+        "is_net_rule": "(rule)", "net_marks": "(layout, wiring, rule)", "check_nets": "(layout, rules)",
+    },
+    "packing": {
+        "are_near": "(first, second, gap)", "is_before": "(first, second, gap)", "pack": "(boxes, *, gap=1, wall=0)",
+        "tight_chain": "(boxes, index, *, gap=1, wall=0)", "pack_cell": "(library, name, *, gap=1)",
+    },
+    "coupling": {
+        "coupling": "(wiring, first, second)", "couplings": "(wiring)", "facing": "(wiring, first, second, n)",
+    },
+    "telling": {"tell": "(answer)"},
 }
 
 METHODS = {
@@ -86,13 +117,20 @@ METHODS = {
         "__init__": "(self, net_count, names, devices)", "name_of": "(self, net)", "devices_at": "(self, net)",
         "__eq__": "(self, other)",
     },
+    Report: {"text": "(self)"},
+    Deck: {"__init__": "(self, definitions, rules)"},
+    Block: {"__init__": "(self, name, ports, devices, uses)"},
+    Schematic: {
+        "__init__": "(self, blocks)", "block": "(self, name)", "device_count": "(self, name)",
+        "count_nets": "(self, name)", "use_count": "(self, name)",
+    },
 }
 
-PROPERTIES = {Library: ["cell_names"], Store: ["mark"]}
+PROPERTIES = {Library: ["cell_names"], Store: ["mark"], Report: ["is_clean"], Schematic: ["block_names"]}
 
 MODULES = {
     Layout: "layouts", Cell: "cells", Library: "cells", Store: "stores", Tree: "trees", Wiring: "wiring",
-    Circuit: "circuits",
+    Circuit: "circuits", Report: "signoff", Deck: "decks", Block: "schematics", Schematic: "schematics",
 }
 
 # The files that define the constants of the interface.
@@ -128,6 +166,13 @@ class Interface(unittest.TestCase):
             self.assertIn(field, vars(Cell("a", [], [], [])))
         for field in ("net_count", "names", "devices"):
             self.assertIn(field, vars(Circuit(0, [], [])))
+        for field in ("definitions", "rules"):
+            self.assertIn(field, vars(Deck([], [])))
+        for field in ("name", "ports", "devices", "uses"):
+            self.assertIn(field, vars(Block("a", [], [], [])))
+        report = sign_off(Library([Cell("a", [], [], [])]), "a", [], Circuit(0, [], []))
+        for field in ("marks", "circuit", "schematic", "answer"):
+            self.assertIn(field, vars(report))
 
     def test_constants_are_assigned_in_their_files(self):
         for name, file in CONSTANTS.items():

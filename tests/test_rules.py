@@ -6,10 +6,8 @@ import unittest
 from reticle.layouts import LAYERS, Layout
 from reticle.regions import area, is_region, move_region
 from reticle.rules import is_rule, marks, reach
-from tests.helpers import (
-    HUGE, TURN_COUNT, box_squares, cut_shapes, piece_squares, random_shapes, region_of_squares, spread_squares,
-    squares_of,
-)
+from tests.helpers import HUGE, TURN_COUNT, cut_shapes, random_shapes, region_of_squares, squares_of
+from tests.plain import marked_squares
 
 
 def layout_of(**boxes):
@@ -21,46 +19,6 @@ def layouts(count, layers, most=4, size=4, longest=4, seed=1):
     """The same lists of shapes on each call."""
     source = random.Random(seed)
     return [random_shapes(source, layers, most, size, longest) for _ in range(count)]
-
-
-def on_layer(shapes, layer):
-    """The set of the squares of a layer."""
-    return squares_of([box for other, box in shapes if other == layer])
-
-
-def boxes_around(x, y, n):
-    """All boxes of width n and height n around a square, as sets of squares."""
-    return [box_squares(x - i, y - j, n) for i in range(n) for j in range(n)]
-
-
-def is_box_piece(piece, width, height):
-    """True if a set of squares is a box of the size, or of the size turned by a quarter."""
-    x, y = min(x for x, _ in piece), min(y for _, y in piece)
-    sizes = [(width, height), (height, width)]
-    return any(piece == {(x + i, y + j) for i in range(w) for j in range(h)} for w, h in sizes)
-
-
-def marked_squares(shapes, rule):
-    """The squares that a rule marks, each looked at by itself."""
-    kind, layer = rule[:2]
-    squares = on_layer(shapes, layer)
-    if kind == "width":
-        return {place for place in squares if not any(box <= squares for box in boxes_around(*place, rule[2]))}
-    if kind == "space":
-        around = spread_squares(squares, rule[2], rule[2], rule[2], rule[2]) - squares
-        return {place for place in around if all(box & squares for box in boxes_around(*place, rule[2]))}
-    if kind in ("area", "size"):
-        parts = piece_squares(squares)
-        if kind == "area":
-            return {place for part in parts if len(part) < rule[2] for place in part}
-        return {place for part in parts if not is_box_piece(part, *rule[2:]) for place in part}
-    other = on_layer(shapes, rule[2])
-    if kind == "never":
-        return squares & other
-    n = rule[3]
-    if kind == "apart":
-        return {(x, y) for x, y in squares if box_squares(x - n, y - n, 2 * n + 1) & other}
-    return {(x, y) for x, y in squares if not box_squares(x - n, y - n, 2 * n + 1) <= other}
 
 
 class IsRule(unittest.TestCase):

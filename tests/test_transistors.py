@@ -8,23 +8,14 @@ from reticle.moves import move_box
 from reticle.regions import move_region, region_of
 from reticle.transistors import channels, is_well_formed, transistor
 from reticle.wiring import connect
-from tests.helpers import HUGE, TURN_COUNT, cut_shapes, neighbours, piece_squares, random_box, region_of_squares, squares_of
+from tests.helpers import HUGE, TURN_COUNT, cut_shapes, neighbours, random_box, region_of_squares
+from tests.plain import channel_squares, on_layer
 
 # A transistor whose ends lie to the left and to the right.
 ACROSS = [("active", (0, 0, 6, 2)), ("poly", (2, -1, 4, 3))]
 
 # One whose ends lie below and above.
 UPRIGHT = [("active", (0, 0, 3, 9)), ("poly", (-1, 4, 4, 5))]
-
-
-def on_layer(shapes, layer):
-    """The set of the squares of a layer."""
-    return squares_of([box for other, box in shapes if other == layer])
-
-
-def channel_squares(shapes):
-    """The sets of squares of the channels, in their order."""
-    return piece_squares(on_layer(shapes, "active") & on_layer(shapes, "poly"))
 
 
 def outer_squares(channel):

@@ -7,54 +7,13 @@ from reticle.layouts import LAYERS, Layout
 from reticle.moves import move_square
 from reticle.wiring import CONDUCTORS, Wiring, conductor, connect
 from tests.helpers import (
-    HUGE, TURN_COUNT, cut_shapes, neighbours, piece_squares, random_move, random_shapes, region_of_squares, squares_of,
+    HUGE, TURN_COUNT, cut_shapes, piece_squares, random_move, random_shapes, region_of_squares,
 )
+from tests.plain import places_of, plain_nets, squares_on
 
 EXAMPLE = Layout(
     [("poly", (0, 0, 1, 4)), ("metal", (0, 3, 5, 4)), ("contact", (0, 3, 1, 4))], [("a", "metal", 4, 3)]
 )
-
-
-def squares_on(shapes):
-    """A dict from each layer to the set of its squares."""
-    return {layer: squares_of([box for other, box in shapes if other == layer]) for layer in LAYERS}
-
-
-def places_of(shapes):
-    """The places of a list of shapes, in the order of point 30."""
-    squares = squares_on(shapes)
-    squares["active"] -= squares["poly"]
-    return [
-        (layer, x, y) for layer in CONDUCTORS for x, y in sorted(squares[layer], key=lambda place: (place[1], place[0]))
-    ]
-
-
-def linked_places(place, squares):
-    """What may be linked with a place (point 29)."""
-    layer, x, y = place
-    found = [(layer, *square) for square in neighbours(x, y)]
-    for between, pairs in [("contact", [("metal", "active"), ("metal", "poly")]), ("via", [("metal", "top")])]:
-        if (x, y) in squares[between]:
-            for first, second in pairs:
-                if layer in (first, second):
-                    found.append((second if layer == first else first, x, y))
-    return found
-
-
-def plain_nets(shapes):
-    """A dict from each place to the number of its net, place by place."""
-    places, squares, nets, count = places_of(shapes), squares_on(shapes), {}, 0
-    known = set(places)
-    for start in places:
-        if start not in nets:
-            nets[start], left = count, [start]
-            while left:
-                for place in linked_places(left.pop(), squares):
-                    if place in known and place not in nets:
-                        nets[place] = count
-                        left.append(place)
-            count += 1
-    return nets
 
 
 def plain_parts(nets, net):
