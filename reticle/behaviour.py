@@ -27,7 +27,8 @@ def pulled(links, fixed, pulling):
     found = {}
     left = [net for net in links if net in fixed and fixed[net] in pulling]
     while left:
-        for net in links[left.pop()]:
+        reached = left.pop()
+        for net in links[reached]:
             # A fixed net keeps its value, and no path goes on behind it.
             if net not in fixed and net not in found:
                 found[net] = True

@@ -9,6 +9,49 @@ HUGE = 10 ** 29
 
 TURN_COUNT = 8
 
+# A schematic of some gates.
+GATES = """block inv a y vdd gnd
+device n a gnd y 2 1
+device p a vdd y 4 1
+block nand a b y vdd gnd
+device n a gnd m 4 1
+device n b m y 4 1
+device p a vdd y 4 1
+device p b vdd y 4 1
+block xor a b y vdd gnd
+use nand a b m vdd gnd
+use nand a m n vdd gnd
+use nand b m o vdd gnd
+use nand n o y vdd gnd
+block and a b y vdd gnd
+use nand a b m vdd gnd
+use inv m y vdd gnd
+block mux s a b y vdd gnd
+use inv s t vdd gnd
+use nand s a m vdd gnd
+use nand t b n vdd gnd
+use nand m n y vdd gnd
+block and8 a b c d e f g h y vdd gnd
+use nand a b n1 vdd gnd
+use inv n1 p1 vdd gnd
+use nand p1 c n2 vdd gnd
+use inv n2 p2 vdd gnd
+use nand p2 d n3 vdd gnd
+use inv n3 p3 vdd gnd
+use nand p3 e n4 vdd gnd
+use inv n4 p4 vdd gnd
+use nand p4 f n5 vdd gnd
+use inv n5 p5 vdd gnd
+use nand p5 g n6 vdd gnd
+use inv n6 p6 vdd gnd
+use nand p6 h n7 vdd gnd
+use inv n7 y vdd gnd
+block switch s a y
+device n s a y 1 1
+block latch s r q vdd gnd
+use nand s p q vdd gnd
+use nand r q p vdd gnd"""
+
 
 def squares_of(boxes):
     """The set of the squares of boxes."""

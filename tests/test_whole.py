@@ -28,7 +28,7 @@ from reticle.schematictext import parse_schematic
 from reticle.signoff import sign_off
 from reticle.telling import tell
 from reticle.wiring import CONDUCTORS, connect
-from tests.helpers import HUGE, TURN_COUNT, cut_shapes, drawn, mixed_up, random_circuit, random_move, random_shapes
+from tests.helpers import GATES, HUGE, TURN_COUNT, cut_shapes, drawn, mixed_up, random_circuit, random_move, random_shapes
 
 RULES = [
     ("width", "metal", 2), ("space", "top", 3), ("apart", "poly", "metal", 1), ("cover", "contact", "metal", 1),
@@ -40,24 +40,6 @@ NET_RULES = [("strangers", "metal", 2), ("antenna", "poly", 1), ("tied", "top")]
 DECK = parse_deck("layer gate active and poly\nlayer ring grow 2 gate minus ( gate or well )\n"
                   "layer far shrink 1 ( metal odd top ) minus open 2 ring\n"
                   "rule width gate 2\nrule never ring metal\nrule area far 5\nrule apart far gate 3")
-
-# Some gates, as a schematic.
-GATES = """block inv a y vdd gnd
-device n a gnd y 2 1
-device p a vdd y 4 1
-block nand a b y vdd gnd
-device n a gnd m 4 1
-device n b m y 4 1
-device p a vdd y 4 1
-device p b vdd y 4 1
-block and a b y vdd gnd
-use nand a b m vdd gnd
-use inv m y vdd gnd
-block mux s a b y vdd gnd
-use inv s t vdd gnd
-use nand s a m vdd gnd
-use nand t b n vdd gnd
-use nand m n y vdd gnd"""
 
 
 def answers(layout):
